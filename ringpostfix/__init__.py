@@ -1,0 +1,1 @@
+"""Postfix programs on a ring, and where they can begin."""

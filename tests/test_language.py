@@ -1,0 +1,153 @@
+"""The rules of the language, as far as a short look at the source can tell."""
+
+import ast
+import builtins
+import os
+import re
+import unittest
+
+FOLDER = os.path.join(os.path.dirname(os.path.dirname(os.path.abspath(__file__))), "ringpostfix")
+
+# The interface, as far as it has landed: the names that each file defines itself.
+INTERFACE = {
+    "errors": [
+        "RingError", "NotReady", "NoBeginning", "NoRows", "NoArity", "TooLong", "LastToken", "OtherEffect",
+        "NoProperty", "BadWish", "BadRing", "NoBalance", "TooManyEdits", "NothingToUndo", "BadEdits", "BadEdit",
+        "Rejected", "Busy", "BadText", "NoPlace", "NoIndex", "NoVersion",
+    ],
+    "rings": ["is_ring", "ring_error", "balance", "turned", "heights", "need", "best_place"],
+}
+
+BARRED_WORDS = re.compile(
+    r"\b(type|typing|typing_extensions|enum|Enum|IntEnum|StrEnum|Flag|IntFlag|Generic|Protocol|ABC|ABCMeta"
+    r"|namedtuple|NamedTuple|TypedDict|TYPE_CHECKING|abstractmethod)\b|dataclass|overload|contextmanager"
+)
+BARRED_NAMES = {"register", "mro", "elements", "open", "input", "law", "version_info", "with_traceback", "add_note"}
+ALLOWED_BUILTINS = set(
+    "len range enumerate zip min max sum abs sorted reversed int str bool bytes list tuple dict set frozenset"
+    " isinstance ord repr any all divmod iter next property staticmethod classmethod super object Exception"
+    " ValueError TypeError KeyError IndexError LookupError ZeroDivisionError ArithmeticError OverflowError"
+    " RuntimeError NotImplementedError AttributeError StopIteration NotImplemented".split()
+)
+MODULE_STATEMENTS = (ast.ImportFrom, ast.FunctionDef, ast.ClassDef, ast.Assign)
+
+
+def package_files():
+    """Return the names of what stands in the package, without Python's own cache."""
+    return sorted(name for name in os.listdir(FOLDER) if name != "__pycache__")
+
+
+def source_of(name):
+    with open(os.path.join(FOLDER, name), encoding="utf-8", newline="") as file:
+        return file.read()
+
+
+def trees():
+    """Return (file name, syntax tree) for each file of the package."""
+    return [(name, ast.parse(source_of(name))) for name in package_files()]
+
+
+def bound_names(tree):
+    """Return all names that a file binds or uses for something of its own."""
+    names = []
+    for node in ast.walk(tree):
+        if isinstance(node, ast.Name) and not isinstance(node.ctx, ast.Load):
+            names.append(node.id)
+        elif isinstance(node, (ast.FunctionDef, ast.ClassDef)):
+            names.append(node.name)
+        elif isinstance(node, ast.arg):
+            names.append(node.arg)
+        elif isinstance(node, ast.alias):
+            names.append(node.asname or node.name)
+        elif isinstance(node, ast.Attribute):
+            names.append(node.attr)
+    return names
+
+
+class LanguageTest(unittest.TestCase):
+    def test_files(self):
+        for name in package_files():
+            self.assertRegex(name, r"^([a-z][a-z0-9_]*|__init__|__main__)\.py$")
+
+    def test_characters_and_sizes(self):
+        for name in package_files():
+            source = source_of(name)
+            self.assertRegex(source, r"^[ -~\n]*$", name)
+            lines = source.split("\n")
+            self.assertLessEqual(len(lines), 399, name)
+            self.assertLessEqual(max(len(line) for line in lines), 120, name)
+            self.assertIsNone(BARRED_WORDS.search(source), name)
+
+    def test_functions_have_at_most_40_lines(self):
+        for name, tree in trees():
+            for node in ast.walk(tree):
+                if isinstance(node, ast.FunctionDef):
+                    self.assertLessEqual(node.end_lineno - node.lineno, 39, f"{name} {node.name}")
+
+    def test_module_level(self):
+        for name, tree in trees():
+            self.assertIsNotNone(ast.get_docstring(tree), name)
+            for node in tree.body[1:]:
+                self.assertIsInstance(node, MODULE_STATEMENTS, f"{name} {node.lineno}")
+
+    def test_imports_name_the_file_that_defines_the_name(self):
+        for name, tree in trees():
+            for node in ast.walk(tree):
+                self.assertNotIsInstance(node, ast.Import, name)
+                if isinstance(node, ast.ImportFrom):
+                    package, file = node.module.split(".")
+                    self.assertEqual((package, node.level), ("ringpostfix", 0), name)
+                    defined = defined_names(ast.parse(source_of(file + ".py")))
+                    for alias in node.names:
+                        self.assertIn(alias.name, defined, name)
+
+    def test_names(self):
+        for name, tree in trees():
+            for bound in bound_names(tree):
+                with self.subTest(file=name, name=bound):
+                    self.assertNotIn(bound, BARRED_NAMES)
+                    self.assertRegex(bound, r"^([A-Za-z][A-Za-z0-9_]*|__[a-z]+__)$")
+
+    def test_builtins(self):
+        for name, tree in trees():
+            for node in ast.walk(tree):
+                if isinstance(node, ast.Name) and hasattr(builtins, node.id):
+                    self.assertIn(node.id, ALLOWED_BUILTINS, f"{name} {node.lineno}")
+                    self.assertIsInstance(node.ctx, ast.Load, f"{name} {node.lineno}")
+
+    def test_values(self):
+        for name, tree in trees():
+            for node in ast.walk(tree):
+                where = f"{name} {getattr(node, 'lineno', '')}"
+                self.assertNotIsInstance(node, (ast.Div, ast.Global, ast.AsyncFunctionDef, ast.Await), where)
+                if isinstance(node, ast.Constant):
+                    self.assertNotIsInstance(node.value, (float, complex), where)
+                    self.assertNotIn("%", str(node.value), where)
+                if isinstance(node, ast.Compare):
+                    for sign, right in zip(node.ops, node.comparators):
+                        if isinstance(sign, (ast.Is, ast.IsNot)):
+                            self.assertIn(getattr(right, "value", 0), (None, True, False), where)
+
+
+def defined_names(tree):
+    """Return the names that the file defines itself at module level."""
+    names = []
+    for node in tree.body:
+        if isinstance(node, (ast.FunctionDef, ast.ClassDef)):
+            names.append(node.name)
+        elif isinstance(node, ast.Assign):
+            names.extend(target.id for target in node.targets)
+    return names
+
+
+class InterfaceTest(unittest.TestCase):
+    def test_names_are_defined_in_their_files(self):
+        for file, names in INTERFACE.items():
+            nodes = ast.parse(source_of(file + ".py")).body
+            defined = [node.name for node in nodes if isinstance(node, (ast.FunctionDef, ast.ClassDef))]
+            for name in names:
+                self.assertEqual(defined.count(name), 1, f"{file} {name}")
+
+
+if __name__ == "__main__":
+    unittest.main()
