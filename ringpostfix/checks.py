@@ -9,3 +9,8 @@ def is_plain_integer(value):
 def is_index(value, many):
     """Return whether the value is an integer from 0 to many - 1."""
     return is_plain_integer(value) and 0 <= value < many
+
+
+def is_count(value):
+    """Return whether the value is an integer from 0 on."""
+    return is_plain_integer(value) and value >= 0

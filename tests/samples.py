@@ -1,6 +1,16 @@
-"""Values that several tests use."""
+"""Values and small functions that several tests use."""
 
 import itertools
+
+
+def shown(source, expression):
+    """Return the last line of a session: the repr of the expression, or the error that it raises."""
+    names = {}
+    exec(source, names)
+    try:
+        return repr(eval(expression, names))
+    except (ValueError, LookupError) as error:
+        return "raises " + repr(error)
 
 
 def any_values():
@@ -52,3 +62,52 @@ def long_rings():
 def all_rings():
     """Return the short rings and the long ones."""
     return short_rings() + long_rings()
+
+
+def endless_reading(ring, start, times):
+    """Read the ring so many times from a place, with enough values on the stack at first.
+
+    Return (taken, stack). taken has a tuple (place, givers, initial) for each token that is read:
+    givers are the values (reading, place) that it takes, the lowest one first, and initial is the
+    number of those it takes that were on the stack at first. stack has the values that are left
+    of those that were put, the lowest one first.
+    """
+    taken = []
+    stack = []
+    for step in range(times * len(ring)):
+        place = (start + step) % len(ring)
+        many = min(ring[place], len(stack))
+        taken.append((place, tuple(stack[len(stack) - many:]), ring[place] - many))
+        stack = stack[:len(stack) - many] + [(step // len(ring), place)]
+    return taken, stack
+
+
+def trees_of(nodes):
+    """Return all trees of exactly so many nodes, with at most 5 children each."""
+    return [tuple(row) for many in range(6) for row in tree_rows_of(nodes - 1, many)]
+
+
+def tree_rows_of(nodes, many):
+    """Return all lists of so many trees that have so many nodes together."""
+    if many == 0:
+        return [[]] if nodes == 0 else []
+    rows = []
+    for first in range(1, nodes - many + 2):
+        for tree in trees_of(first):
+            rows.extend([tree] + rest for rest in tree_rows_of(nodes - first, many - 1))
+    return rows
+
+
+def chain(nodes):
+    """Return the tree of so many nodes in which no node has two children."""
+    tree = ()
+    for _ in range(nodes - 1):
+        tree = (tree,)
+    return tree
+
+
+def wide_tree(nodes):
+    """Return a tree of so many nodes: 5 children for the first, 5 for its last one, and so on."""
+    if nodes <= 6:
+        return ((),) * (nodes - 1)
+    return ((),) * 4 + (wide_tree(nodes - 5),)

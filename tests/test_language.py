@@ -8,14 +8,28 @@ import unittest
 
 FOLDER = os.path.join(os.path.dirname(os.path.dirname(os.path.abspath(__file__))), "ringpostfix")
 
-# The interface, as far as it has landed: the names that each file defines itself.
+# The interface, as far as it has landed: the names that each file defines itself, with the arguments of functions.
 INTERFACE = {
     "errors": [
         "RingError", "NotReady", "NoBeginning", "NoRows", "NoArity", "TooLong", "LastToken", "OtherEffect",
         "NoProperty", "BadWish", "BadRing", "NoBalance", "TooManyEdits", "NothingToUndo", "BadEdits", "BadEdit",
         "Rejected", "Busy", "BadText", "NoPlace", "NoIndex", "NoVersion",
     ],
-    "rings": ["is_ring", "ring_error", "balance", "turned", "heights", "need", "best_place"],
+    "rings": [
+        "is_ring(value)", "ring_error(value)", "balance(row)", "turned(ring, place)", "heights(ring, place)",
+        "need(ring, place)", "best_place(ring)",
+    ],
+    "effects": ["effect_of(row)", "join_effects(*effects)", "repeat_effect(effect, times)", "is_effect(value)"],
+    "beginnings": [
+        "beginnings(ring)", "count_beginnings(ring)", "next_beginning(ring, place)", "units(ring)", "join_rows(*rows)",
+    ],
+    "links": [
+        "taker(ring, place)", "givers(ring, place)", "lacks(ring)", "free_places(ring)", "links_hold(ring, value)",
+    ],
+    "trees": [
+        "is_tree(value)", "tree_row(tree)", "row_trees(row)", "trees_from(ring, place)", "ring_of_trees(*trees)",
+        "each_node(tree)",
+    ],
 }
 
 BARRED_WORDS = re.compile(
@@ -115,6 +129,30 @@ class LanguageTest(unittest.TestCase):
                     self.assertIn(node.id, ALLOWED_BUILTINS, f"{name} {node.lineno}")
                     self.assertIsInstance(node.ctx, ast.Load, f"{name} {node.lineno}")
 
+    def test_generators_have_names_of_their_own(self):
+        functions = []
+        generators = []
+        for name, tree in trees():
+            for node in ast.walk(tree):
+                if isinstance(node, ast.FunctionDef):
+                    functions.append(node.name)
+                    if any(isinstance(part, (ast.Yield, ast.YieldFrom)) for part in ast.walk(node)):
+                        generators.append(node.name)
+        for name in generators:
+            self.assertEqual(functions.count(name), 1, name)
+
+    def test_no_local_name_is_a_class_or_an_import_of_its_file(self):
+        for name, tree in trees():
+            taken = [node.name for node in tree.body if isinstance(node, ast.ClassDef)]
+            for node in tree.body:
+                if isinstance(node, ast.ImportFrom):
+                    taken.extend(alias.asname or alias.name for alias in node.names)
+            for node in ast.walk(tree):
+                if isinstance(node, ast.arg):
+                    self.assertNotIn(node.arg, taken, name)
+                if isinstance(node, ast.Name) and not isinstance(node.ctx, ast.Load):
+                    self.assertNotIn(node.id, taken, name)
+
     def test_values(self):
         for name, tree in trees():
             for node in ast.walk(tree):
@@ -140,12 +178,19 @@ def defined_names(tree):
     return names
 
 
+def heading(node):
+    """Return the name of a class, or the name and the arguments of a function as the document writes them."""
+    if isinstance(node, ast.ClassDef):
+        return node.name
+    return f"{node.name}({ast.unparse(node.args)})"
+
+
 class InterfaceTest(unittest.TestCase):
     def test_names_are_defined_in_their_files(self):
-        for file, names in INTERFACE.items():
+        for file, wanted in INTERFACE.items():
             nodes = ast.parse(source_of(file + ".py")).body
-            defined = [node.name for node in nodes if isinstance(node, (ast.FunctionDef, ast.ClassDef))]
-            for name in names:
+            defined = [heading(node) for node in nodes if isinstance(node, (ast.FunctionDef, ast.ClassDef))]
+            for name in wanted:
                 self.assertEqual(defined.count(name), 1, f"{file} {name}")
 
 

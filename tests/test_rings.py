@@ -69,11 +69,9 @@ def least_values(ring, place):
 
 class ExamplesTest(unittest.TestCase):
     def test_examples(self):
-        for source, expression, shown in EXAMPLES:
+        for source, expression, answer in EXAMPLES:
             with self.subTest(expression=expression):
-                names = {}
-                exec(source, names)
-                self.assertEqual(repr(eval(expression, names)), shown)
+                self.assertEqual(samples.shown(source, expression), answer)
 
 
 class RingErrorTest(unittest.TestCase):
