@@ -64,6 +64,16 @@ def all_rings():
     return short_rings() + long_rings()
 
 
+def can_be_read(row):
+    """Return whether no token of the row finds too few values, with none at first."""
+    values = 0
+    for arity in row:
+        if values < arity:
+            return False
+        values += 1 - arity
+    return True
+
+
 def endless_reading(ring, start, times):
     """Read the ring so many times from a place, with enough values on the stack at first.
 

@@ -42,19 +42,9 @@ EXAMPLES = [
 ]
 
 
-def can_be_read(row):
-    """Return whether no token of the row finds too few values, with none at first."""
-    values = 0
-    for arity in row:
-        if values < arity:
-            return False
-        values += 1 - arity
-    return True
-
-
 def tried_beginnings(ring):
     """Return the beginnings, found by reading from each place."""
-    return tuple(place for place in range(len(ring)) if can_be_read(ring[place:] + ring[:place]))
+    return tuple(place for place in range(len(ring)) if samples.can_be_read(ring[place:] + ring[:place]))
 
 
 class ExamplesTest(unittest.TestCase):
@@ -154,8 +144,8 @@ class UnitsTest(unittest.TestCase):
 
 
 # Rows of every kind; the ready ones are those that can be read and are not empty.
-READY = [row for row in samples.short_rings() if len(row) < 4 and can_be_read(row)]
-NOT_READY = [()] + [row for row in samples.short_rings() if len(row) < 4 and not can_be_read(row)]
+READY = [row for row in samples.short_rings() if len(row) < 4 and samples.can_be_read(row)]
+NOT_READY = [()] + [row for row in samples.short_rings() if len(row) < 4 and not samples.can_be_read(row)]
 
 
 class JoinRowsTest(unittest.TestCase):
@@ -168,7 +158,7 @@ class JoinRowsTest(unittest.TestCase):
 
     def test_one_row(self):
         for ring in RINGS:
-            if can_be_read(ring):
+            if samples.can_be_read(ring):
                 self.assertEqual(join_rows(ring), ring)
             else:
                 self.check_error([ring], NotReady, "row", ring)

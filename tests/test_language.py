@@ -30,6 +30,18 @@ INTERFACE = {
         "is_tree(value)", "tree_row(tree)", "row_trees(row)", "trees_from(ring, place)", "ring_of_trees(*trees)",
         "each_node(tree)",
     ],
+    "changes": [
+        "lowered(ring, place)", "raised(ring, place)", "added_beginning(ring, place)", "with_token(ring, place, arity)",
+        "without_token(ring, place)", "replaced(ring, place, count, row)", "select(ring, **wanted)",
+    ],
+    "far": [
+        "is_far_ring(value)", "far_length(far)", "far_balance(far)", "far_effect(far)", "far_need(far, position)",
+        "far_beginnings(far)", "beginning_at(far, index)", "far_taker(far, position)", "unrolled(far)",
+    ],
+    "counting": [
+        "count_rows(counts)", "count_ready(counts)", "ready_at(counts, index)", "ready_index(row)",
+        "each_ready(counts)",
+    ],
 }
 
 BARRED_WORDS = re.compile(

@@ -68,16 +68,6 @@ def rows_of(trees):
     return tuple(arity for tree in trees for arity in row_of(tree))
 
 
-def can_be_read(row):
-    """Return whether no token of the row finds too few values, with none at first."""
-    values = 0
-    for arity in row:
-        if values < arity:
-            return False
-        values += 1 - arity
-    return True
-
-
 class ExamplesTest(unittest.TestCase):
     def test_examples(self):
         for source, expression, answer in EXAMPLES:
@@ -187,7 +177,7 @@ class RowTreesTest(unittest.TestCase):
 
     def test_all_rows(self):
         for row in RINGS:
-            if can_be_read(row):
+            if samples.can_be_read(row):
                 trees = row_trees(row)
                 self.assertEqual(rows_of(trees), row)
                 self.assertEqual(len(trees), balance(row))
