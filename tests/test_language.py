@@ -42,6 +42,25 @@ INTERFACE = {
         "count_rows(counts)", "count_ready(counts)", "ready_at(counts, index)", "ready_index(row)",
         "each_ready(counts)",
     ],
+    "texts": ["ring_text(ring)", "places_text(places)", "parse_ring(text)"],
+    "terms": ["terms_from(ring, names, place)", "parse_term(text)"],
+    "reels": ["Reel", "ReadyReel(Reel)", "LoggedReel(Reel)", "LoggedReadyReel(LoggedReel, ReadyReel)"],
+    "consoles": ["Console"],
+}
+# What the body of each class itself holds: its methods with their arguments, and its class values.
+MEMBERS = {
+    "Reel": [
+        "MOST_EDITS", "WORDS", "__init__(self, ring)", "classmethod read(cls, text)", "staticmethod is_edit(value)",
+        "property ring(self)", "property version(self)", "property beginnings(self)", "property start(self)",
+        "start.setter start(self, value)", "choose(self, value)", "put(self, place, arity)",
+        "insert(self, place, arity)", "remove(self, place)", "undo(self)", "run(self, edits, *, on_step=None)",
+        "ring_at(self, version)", "edits(self)", "walk(self)", "copy(self)", "__len__(self)", "__str__(self)",
+        "__eq__(self, other)",
+    ],
+    "ReadyReel": ["__init__(self, ring)"],
+    "LoggedReel": ["__init__(self, ring)", "property log(self)"],
+    "LoggedReadyReel": ["__init__(self, ring)"],
+    "Console": ["__init__(self, reel)", "execute(self, line)", "property history(self)"],
 }
 
 BARRED_WORDS = re.compile(
@@ -179,6 +198,44 @@ class LanguageTest(unittest.TestCase):
                             self.assertIn(getattr(right, "value", 0), (None, True, False), where)
 
 
+    def test_no_name_is_a_method_and_an_attribute(self):
+        methods, assigned = set(), set()
+        for name, tree in trees():
+            for node in ast.walk(tree):
+                if isinstance(node, ast.ClassDef):
+                    methods |= {part.name for part in node.body if isinstance(part, ast.FunctionDef)}
+                if isinstance(node, ast.Attribute) and not isinstance(node.ctx, ast.Load):
+                    assigned.add(node.attr)
+        # A property with a setter is assigned, too.
+        self.assertEqual(assigned & methods, {"start"})
+
+    def test_double_underscore_methods(self):
+        allowed = {"__init__", "__eq__", "__len__", "__str__"}
+        for name, tree in trees():
+            for node in ast.walk(tree):
+                if isinstance(node, ast.FunctionDef) and node.name.startswith("__"):
+                    self.assertIn(node.name, allowed, name)
+
+    def test_errors_are_raised_and_caught_by_name(self):
+        errors = set(defined_names(ast.parse(source_of("errors.py"))))
+        for name, tree in trees():
+            for node in ast.walk(tree):
+                if isinstance(node, ast.Raise):
+                    self.assertIsInstance(node.exc, ast.Call, f"{name} {node.lineno}")
+                    self.assertIn(node.exc.func.id, errors, f"{name} {node.lineno}")
+                if isinstance(node, ast.ExceptHandler):
+                    kinds = node.type.elts if isinstance(node.type, ast.Tuple) else [node.type]
+                    self.assertLessEqual({kind.id for kind in kinds}, errors, f"{name} {node.lineno}")
+
+    def test_generator_expressions_and_sorting(self):
+        # Reels have __eq__ and __len__, so there are lists in these places, and no .sort().
+        for name, tree in trees():
+            for node in ast.walk(tree):
+                self.assertNotIsInstance(node, ast.GeneratorExp, f"{name} {getattr(node, 'lineno', '')}")
+                if isinstance(node, ast.Attribute):
+                    self.assertNotEqual(node.attr, "sort", f"{name} {node.lineno}")
+
+
 def defined_names(tree):
     """Return the names that the file defines itself at module level."""
     names = []
@@ -191,10 +248,23 @@ def defined_names(tree):
 
 
 def heading(node):
-    """Return the name of a class, or the name and the arguments of a function as the document writes them."""
+    """Return a class or a function as the document writes it, with a decorator in front of it."""
     if isinstance(node, ast.ClassDef):
-        return node.name
-    return f"{node.name}({ast.unparse(node.args)})"
+        bases = ", ".join(ast.unparse(base) for base in node.bases)
+        # The bases of errors are no part of how the interface names them.
+        return f"{node.name}({bases})" if "Reel" in bases else node.name
+    return " ".join([ast.unparse(part) for part in node.decorator_list] + [f"{node.name}({ast.unparse(node.args)})"])
+
+
+def members(node):
+    """Return the methods and the class values in the body of a class."""
+    found = []
+    for part in node.body:
+        if isinstance(part, ast.FunctionDef):
+            found.append(heading(part))
+        elif isinstance(part, ast.Assign):
+            found.extend(target.id for target in part.targets)
+    return found
 
 
 class InterfaceTest(unittest.TestCase):
@@ -204,6 +274,13 @@ class InterfaceTest(unittest.TestCase):
             defined = [heading(node) for node in nodes if isinstance(node, (ast.FunctionDef, ast.ClassDef))]
             for name in wanted:
                 self.assertEqual(defined.count(name), 1, f"{file} {name}")
+
+    def test_members_stand_in_the_classes_themselves(self):
+        for file in ("reels", "consoles"):
+            for node in ast.parse(source_of(file + ".py")).body:
+                if isinstance(node, ast.ClassDef):
+                    for name in MEMBERS[node.name]:
+                        self.assertEqual(members(node).count(name), 1, f"{node.name} {name}")
 
 
 if __name__ == "__main__":
