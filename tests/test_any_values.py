@@ -38,7 +38,8 @@ def results():
     rows = tuple(each_ready((2, 1, 1, 0, 0, 0)))
     return [
         reel, reel.copy(), Console(reel), NoPlace(5), BadText(None), reel.edits(), reel.log, list(reel.walk()), [reel],
-        (reel,), {"reel": reel}, (reel, reel), (0, reel), ("put", reel), (reel, 0, 0), rows, list(rows[0]), (rows[0], 0),
+        (reel,), {"reel": reel}, (reel, reel), (0, reel), ("put", reel), (reel, 0, 0),
+        rows, list(rows[0]), (rows[0], 0),
         (units(RING)[0], [3, 1]), list(far_beginnings(((0, 9), (2, 3)))), (None, "tuple"), lacks((3, 0)) + (None,),
         row_trees((0, 0, 2)) + ([],), effect_of(RING) + (True,), (False, True), select(RING) + (4.0,), links_of(RING),
     ]

@@ -191,7 +191,8 @@ class UnknownTest(ConsoleCase):
 
     def test_words_that_are_no_numbers(self):
         wrong = [
-            "", "-1", "-0", "+1", "00", "01", "007", "000", "1.0", "1e1", "0x1", "1_0", "a", "x", "1x", "x1", "none", "None", "True",
+            "", "-1", "-0", "+1", "00", "01", "007", "000", "1.0", "1e1", "0x1", "1_0", "a", "x", "1x", "x1",
+            "none", "None", "True",
             "0,", "(0)", "0\n", "\n0", "\t0", "1000", "9999", "0000", "10" * 20, "\u0661", "\uff11", "\u00b2", "-",
         ]
         for word in wrong:
@@ -226,7 +227,8 @@ class UnknownTest(ConsoleCase):
 
     def test_other_words(self):
         for word in (
-            "", " ", "help", "run", "choose", "read", "version", "edits", "log", "copy", "walk", "quit", "link", "needs",
+            "", " ", "help", "run", "choose", "read", "version", "edits", "log", "copy", "walk", "quit", "link",
+            "needs",
             "rings", "execute", "history", "none", "ok", "puts", "__init__", "ring_at",
         ):
             for line in (word, word + " 0", word + " 0 0"):
@@ -234,7 +236,8 @@ class UnknownTest(ConsoleCase):
 
     def test_other_values(self):
         for kind in KINDS:
-            for value in samples.any_values() + [("ring",), ["ring"], {"ring": 0}, b"ring", Reel((0,)), 0, ("put", 0, 0)]:
+            more = [("ring",), ["ring"], {"ring": 0}, b"ring", Reel((0,)), 0, ("put", 0, 0)]
+            for value in samples.any_values() + more:
                 self.check(filled(kind, 2), value, UNKNOWN)
 
 

@@ -166,7 +166,8 @@ class ParseTermTest(unittest.TestCase):
                 self.check_error("f(x, " + name + ")")
 
     def test_signs_that_are_no_letters(self):
-        for sign in [chr(code) for code in range(32, 127) if not chr(code).islower()] + ["\n", "\t", "\u00e9", "\u00df"]:
+        signs = [chr(code) for code in range(32, 127) if not chr(code).islower()]
+        for sign in signs + ["\n", "\t", "\u00e9", "\u00df"]:
             for text in (sign, "x" + sign, sign + "x", f"f({sign})", f"f(x{sign})", f"f{sign}(x)", f"f(x){sign}"):
                 self.check_error(text)
 
